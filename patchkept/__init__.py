@@ -1,0 +1,1 @@
+"""Patchkept: deciding whether a patch keeps a schema, for all documents."""
