@@ -37,6 +37,24 @@ def bound_names(tree):
     return names
 
 
+def imports_of(path):
+    """The pairs of a module of the package and a name that a file imports from it."""
+    nodes = [node for node in ast.walk(tree_of(path)) if isinstance(node, ast.ImportFrom)]
+    own = [node for node in nodes if node.module.startswith("patchkept.")]
+    return [(node.module.removeprefix("patchkept."), alias.name) for node in own for alias in node.names]
+
+
+def defined_in(path):
+    """The names of the functions, classes and values at the module level of a file."""
+    names = []
+    for node in tree_of(path).body:
+        if isinstance(node, (ast.FunctionDef, ast.ClassDef)):
+            names.append(node.name)
+        elif isinstance(node, ast.Assign):
+            names.append(node.targets[0].id)
+    return names
+
+
 class Package(unittest.TestCase):
     def test_the_folder_holds_only_program_files(self):
         self.assertIn("__init__.py", [path.name for path in FILES])
@@ -57,6 +75,34 @@ class Package(unittest.TestCase):
             tree = tree_of(path)
             read = {node.id for node in ast.walk(tree) if isinstance(node, ast.Name)}
             self.assertEqual(read - bound_names(tree) - BUILTINS, set(), path)
+
+    def test_modules_hold_only_imports_definitions_and_plain_values(self):
+        for path in FILES:
+            body = tree_of(path).body
+            self.assertIsNotNone(ast.get_docstring(tree_of(path)), path)
+            for node in body[1:]:
+                self.assertIsInstance(node, (ast.ImportFrom, ast.FunctionDef, ast.ClassDef, ast.Assign), path)
+                if isinstance(node, ast.Assign):
+                    called = [part for part in ast.walk(node) if isinstance(part, ast.Call)]
+                    self.assertEqual((len(node.targets), called), (1, []), path)
+
+    def test_imports_name_the_defining_file_and_form_no_circle(self):
+        reached = {}
+        for path in FILES:
+            reached[path.stem] = [module for module, _ in imports_of(path)]
+            for module, name in imports_of(path):
+                self.assertIn(name, defined_in(FOLDER / f"{module}.py"), path)
+        while reached:
+            free = [stem for stem, modules in reached.items() if not set(modules) & set(reached)]
+            self.assertNotEqual(free, [], f"a circle among {sorted(reached)}")
+            reached = {stem: modules for stem, modules in reached.items() if stem not in free}
+
+    def test_identity_is_asked_of_none_true_and_false_alone(self):
+        for path in FILES:
+            for node in ast.walk(tree_of(path)):
+                if isinstance(node, ast.Compare) and isinstance(node.ops[0], (ast.Is, ast.IsNot)):
+                    asked = node.comparators[0]
+                    self.assertTrue(isinstance(asked, ast.Constant) and asked.value in (None, True, False), path)
 
     def test_files_lines_and_functions_are_short(self):
         for path in FILES:

@@ -1,14 +1,14 @@
 """Paths and changes at a place (points 6 to 10)."""
 
-import ast
-import inspect
 import itertools
 import unittest
 
 from patchkept import places
 from patchkept.places import lookup, put_at, replace_at, take_at
+from tests.helpers import (
+    NULL, check_interface, consists_of_tuples, from_plain, leads, place_of, places_in, remade, to_plain,
+)
 
-NULL = ("null",)
 ONE, TWO, THREE = ("int", 1), ("int", 2), ("int", 3)
 NEW = ("text", "new")
 LEAVES = [NULL, ("bool", True), ("int", 5), ("text", "ab"), ("text", "")]
@@ -26,29 +26,7 @@ TOKENS = ["", "a", "b", "z", "0", 0, 1, 2, 3]
 PATHS = [path for length in range(4) for path in itertools.product(TOKENS, repeat=length)]
 
 
-# The model below works on Python's own lists and dicts, which it changes in place; a leaf stays a tuple.
-
-def to_plain(value):
-    if value[0] == "list":
-        return [to_plain(item) for item in value[1]]
-    if value[0] == "object":
-        return {name: to_plain(part) for name, part in value[1]}
-    return value
-
-
-def from_plain(plain):
-    if isinstance(plain, list):
-        return ("list", tuple(from_plain(item) for item in plain))
-    if isinstance(plain, dict):
-        return ("object", tuple((name, from_plain(plain[name])) for name in sorted(plain)))
-    return plain
-
-
-def leads(plain, token):
-    if isinstance(token, str):
-        return isinstance(plain, dict) and token in plain
-    return isinstance(plain, list) and 0 <= token < len(plain)
-
+# The model below works on values in the plain form.
 
 def plain_lookup(plain, path):
     for token in path:
@@ -56,11 +34,6 @@ def plain_lookup(plain, path):
             return None
         plain = plain[token]
     return plain
-
-
-def model_lookup(value, path):
-    found = plain_lookup(to_plain(value), path)
-    return None if found is None else from_plain(found)
 
 
 def model_replace(value, path, new):
@@ -102,39 +75,12 @@ def model_take(value, path):
     return from_plain(plain)
 
 
-def places_in(value, path=()):
-    """All paths that lead to a place in the value, the empty one first."""
-    found = [path]
-    if value[0] == "list":
-        for index, item in enumerate(value[1]):
-            found += places_in(item, path + (index,))
-    if value[0] == "object":
-        for name, part in value[1]:
-            found += places_in(part, path + (name,))
-    return found
-
-
-def remade(parts):
-    """An equal value or path that shares no object with the given one."""
-    return ast.literal_eval(repr(parts))
-
-
-def consists_of_tuples(value):
-    if isinstance(value, tuple):
-        return all(consists_of_tuples(part) for part in value)
-    return isinstance(value, (str, int))
-
-
 class Interface(unittest.TestCase):
     def test_names_and_arguments(self):
-        listed = {
+        check_interface(self, places, {
             "lookup": ["value", "path"], "replace_at": ["value", "path", "new"],
             "put_at": ["value", "path", "new"], "take_at": ["value", "path"],
-        }
-        for name, arguments in listed.items():
-            function = getattr(places, name)
-            self.assertEqual(list(inspect.signature(function).parameters), arguments)
-            self.assertEqual(function.__module__, "patchkept.places")
+        })
 
 
 class Lookup(unittest.TestCase):
@@ -340,7 +286,7 @@ class AllPlaces(unittest.TestCase):
         for value in VALUES:
             for path in PATHS:
                 with self.subTest(value=value, path=path):
-                    self.assertEqual(lookup(value, path), model_lookup(value, path))
+                    self.assertEqual(lookup(value, path), place_of(value, path))
                     self.assertEqual(replace_at(value, path, NEW), model_replace(value, path, NEW))
                     self.assertEqual(put_at(value, path, LIST), model_put(value, path, LIST))
                     self.assertEqual(take_at(value, path), model_take(value, path))

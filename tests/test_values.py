@@ -1,14 +1,13 @@
 """Values, their sizes and their depths (points 4 and 5)."""
 
 import copy
-import inspect
 import itertools
 import unittest
 
 from patchkept import values
 from patchkept.values import depth_of, make_object, size_of
+from tests.helpers import NULL, check_interface
 
-NULL = ("null",)
 LEAVES = [
     NULL, ("bool", True), ("bool", False), ("int", 0), ("int", -3), ("int", 10 ** 400),
     ("text", ""), ("text", "null"), ("text", "many characters, but one value"),
@@ -32,11 +31,7 @@ def nested_objects(depth):
 
 class Interface(unittest.TestCase):
     def test_names_and_arguments(self):
-        listed = {"make_object": ["pairs"], "size_of": ["value"], "depth_of": ["value"]}
-        for name, arguments in listed.items():
-            function = getattr(values, name)
-            self.assertEqual(list(inspect.signature(function).parameters), arguments)
-            self.assertEqual(function.__module__, "patchkept.values")
+        check_interface(self, values, {"make_object": ["pairs"], "size_of": ["value"], "depth_of": ["value"]})
 
 
 class MakeObject(unittest.TestCase):
