@@ -9,6 +9,18 @@ KINDS = ("null", "bool", "int", "text", "list", "object")
 NAMES = ("", "a", "b", "c")
 
 
+def ints(*numbers):
+    return ("list", tuple(("int", number) for number in numbers))
+
+
+def texts(*strings):
+    return ("list", tuple(("text", string) for string in strings))
+
+
+def fields(**named):
+    return ("object", tuple(sorted(named.items())))
+
+
 def check_interface(case, module, listed):
     """Each name is a function that the module itself defines, with these arguments."""
     for name, arguments in listed.items():

@@ -6,7 +6,7 @@ import unittest
 from patchkept import formulas
 from patchkept.formulas import holds, holds_with
 from tests.helpers import (
-    KINDS, NULL, check_interface, made_formula, made_value, nesting_of, place_of, remade,
+    KINDS, NULL, check_interface, fields, ints, made_formula, made_value, nesting_of, place_of, remade,
 )
 
 TRUE, FALSE = ("true",), ("false",)
@@ -18,16 +18,6 @@ BIG = 10 ** 60 - 1
 ONE_OF_EACH = [NULL, YES, NO, ("int", 0), ONE, ("text", ""), ("text", "ab"), EMPTY_LIST, EMPTY_OBJECT,
                ("list", (NULL,)), ("object", (("a", NULL),))]
 PLAIN_WORDS = ("not", "and", "or", "at", "each_item", "each_field")
-
-
-def ints(*numbers):
-    return ("list", tuple(("int", number) for number in numbers))
-
-
-def fields(**named):
-    return ("object", tuple(sorted(named.items())))
-
-
 DEEP = fields(a=("list", (ONE, fields(b=("text", "x"), c=EMPTY_LIST), ints(1, 2))), d=NULL)
 
 

@@ -9,8 +9,8 @@ from patchkept.meanings import equal_formula, schema_formula
 from patchkept.schemas import is_valid
 from patchkept.values import depth_of
 from tests.helpers import (
-    KINDS, NULL, check_interface, consists_of_tuples, fitting_value, formulas_in, made_schema, made_value, nesting_of,
-    remade, variants,
+    KINDS, NULL, check_interface, consists_of_tuples, fields, fitting_value, formulas_in, ints, made_schema,
+    made_value, nesting_of, remade, texts, variants,
 )
 
 ANY, NEVER = ("any",), ("never",)
@@ -18,18 +18,6 @@ YES, NO = ("bool", True), ("bool", False)
 ONE = ("int", 1)
 EMPTY_LIST, EMPTY_OBJECT = ("list", ()), ("object", ())
 BIG = 10 ** 60 - 1
-
-
-def ints(*numbers):
-    return ("list", tuple(("int", number) for number in numbers))
-
-
-def texts(*strings):
-    return ("list", tuple(("text", string) for string in strings))
-
-
-def fields(**named):
-    return ("object", tuple(sorted(named.items())))
 
 
 MIXED = fields(

@@ -10,11 +10,12 @@ from patchkept.patches import apply, primitives_of, run_primitive
 from patchkept.places import lookup, put_at, replace_at, take_at
 from patchkept.schemas import is_valid
 from tests.helpers import (
-    NULL, check_interface, consists_of_tuples, from_plain, leads, made_patch, made_path, made_step, made_value,
-    remade, to_plain, variants,
+    NULL, check_interface, consists_of_tuples, fields, from_plain, ints, leads, made_patch, made_path,
+    made_step, made_value, remade, to_plain, variants,
 )
 
 ANY = ("any",)
+ONE_OR_LESS = ("int", None, 1)
 YES = ("bool", True)
 ONE, TWO, THREE = ("int", 1), ("int", 2), ("int", 3)
 NEW, HELD = ("text", "new"), ("text", "held")
@@ -32,14 +33,6 @@ STEPS = [
     ("move", ("a",), ("b", -1)), ("copy", ("a",), ("b", 0)), ("increase", ("a",), -2), ("each", ("a",), ADD_ONE),
     ("when", ("a",), ("int", 0, None), ADD_ONE, FAILING),
 ]
-
-
-def ints(*numbers):
-    return ("list", tuple(("int", number) for number in numbers))
-
-
-def fields(**named):
-    return ("object", tuple(sorted(named.items())))
 
 
 # The model knows no primitives: it changes a value in the plain form, which hangs in a list of one item, so
@@ -415,9 +408,6 @@ class Each(Primitives):
         expected = ("list", (("list", (TWO, TWO, THREE, NEW, ONE)),))
         self.check(("each", (), patch), ("list", (LIST,)), expected)
         self.assertEqual(run_primitive(("each", (), patch), ("list", (LIST,)), None), (expected, None))
-
-
-ONE_OR_LESS = ("int", None, 1)
 
 
 class When(Primitives):

@@ -6,7 +6,8 @@ import unittest
 from patchkept import schemas
 from patchkept.schemas import is_valid
 from tests.helpers import (
-    NULL, check_interface, fitting_value, made_schema, made_value, remade, to_plain, variants,
+    NULL, check_interface, fields, fitting_value, ints, made_schema, made_value, remade, texts, to_plain,
+    variants,
 )
 
 ANY, NEVER = ("any",), ("never",)
@@ -19,18 +20,6 @@ NESTED = ("object", (
     ("a", ("list", (("int", 1), ("object", (("b", YES), ("c", ("text", "null")))), EMPTY_LIST))),
     ("d", NULL),
 ))
-
-
-def ints(*numbers):
-    return ("list", tuple(("int", number) for number in numbers))
-
-
-def texts(*strings):
-    return ("list", tuple(("text", string) for string in strings))
-
-
-def fields(**named):
-    return ("object", tuple(sorted(named.items())))
 
 
 def in_range(number, low, high):
