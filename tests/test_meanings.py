@@ -18,8 +18,6 @@ YES, NO = ("bool", True), ("bool", False)
 ONE = ("int", 1)
 EMPTY_LIST, EMPTY_OBJECT = ("list", ()), ("object", ())
 BIG = 10 ** 60 - 1
-
-
 MIXED = fields(
     a=ints(1, 2, 3), b=fields(c=EMPTY_LIST, d=EMPTY_OBJECT, e=NO), f=("list", (NULL, fields(g=("text", "h")))),
 )
