@@ -308,3 +308,77 @@ def nesting_of(formula):
         depth += 1
         level = [inner for part in level for inner in formulas_in(part)]
     return depth
+
+
+def has_held(formula):
+    waiting = [formula]
+    while waiting:
+        part = waiting.pop()
+        if part[0] == "held":
+            return True
+        waiting.extend(formulas_in(part))
+    return False
+
+
+def leaf_about(rng, kind):
+    words = {"int": ("int_from",), "text": ("text_is", "text_from"), "bool": ("bool_is",)}
+    word = rng.choice(words.get(kind, ("kind", "int_from", "int_from", "text_is", "text_from", "bool_is")))
+    if word == "kind":
+        return ("kind", rng.choice(KINDS[:4]))
+    if word == "text_is":
+        return ("text_is", rng.choice(("", "a", "b")))
+    return (word, rng.random() < 0.5 if word == "bool_is" else rng.randrange(3))
+
+
+def formula_about(rng, kind, depth, joints=2):
+    """A formula whose parts are mostly about one kind of values, so that they have to do with each other."""
+    chance = rng.random()
+    if joints and chance < 0.6:
+        parts = [formula_about(rng, kind, depth, joints - 1) for _ in range(rng.randrange(2, 5))]
+        return (rng.choice(("and", "and", "or")), tuple(parts))
+    if joints and chance < 0.75:
+        return ("not", formula_about(rng, kind, depth, joints - 1))
+    if depth == 0 or kind in KINDS[:4]:
+        return leaf_about(rng, kind)
+    inner = formula_about(rng, rng.choice(("list", "object", "int", "any") if depth > 1 else ("int", "any")), depth - 1)
+    word = rng.choice({"list": ("each_item", "at"), "object": ("each_field", "at")}.get(kind, ("each_item", "each_field")))
+    if kind == "list" and chance > 0.95:
+        return ("items_from", rng.randrange(4))
+    if word == "at":
+        formula = ("at", (rng.randrange(3) if kind == "list" else rng.choice("abc"),), inner)
+    elif word == "each_item":
+        formula = ("each_item", rng.randrange(3), inner)
+    else:
+        formula = ("each_field", tuple(rng.choice("abc") for _ in range(rng.randrange(3))), inner)
+    return ("not", formula) if rng.random() < 0.4 else formula
+
+
+def made_document(rng, depth):
+    """A list or an object of leaves that the formulas of `formula_about` tell apart."""
+    def part():
+        if depth > 1 and rng.random() < 0.4:
+            return made_document(rng, depth - 1)
+        leaves = [NULL, ("bool", rng.random() < 0.5), ("int", rng.randrange(-1, 3))]
+        return rng.choice(leaves + [("int", rng.randrange(3)), ("text", rng.choice(("", "a", "b", "c", "cc")))])
+    if rng.random() < 0.5:
+        return ("list", tuple(part() for _ in range(rng.randrange(6))))
+    return ("object", tuple((name, part()) for name in sorted(rng.sample("abcdef", rng.randrange(5)))))
+
+
+def steps_in(patch):
+    """How many steps a patch has, those of contained patches included."""
+    inner = [part for step in patch if step[0] in ("each", "when") for part in step[2 if step[0] == "each" else 3:]]
+    return len(patch) + sum(steps_in(part) for part in inner)
+
+
+def whens_in(patch):
+    inner = [part for step in patch if step[0] in ("each", "when") for part in step[2 if step[0] == "each" else 3:]]
+    return len([step for step in patch if step[0] == "when"]) + sum(whens_in(part) for part in inner)
+
+
+def made_long_patch(rng, value):
+    """A patch of 4 to 8 steps, nested up to 3 deep."""
+    patch = ()
+    while not (4 <= steps_in(patch) <= 8 and whens_in(patch) <= 3):
+        patch = tuple(made_step(rng, 3, value) for _ in range(rng.randrange(2, 6)))
+    return patch
