@@ -1,5 +1,6 @@
 """The search for a value at which a formula holds (point 18)."""
 
+from patchkept.claims import own_tokens
 from patchkept.demands import Demands, reaches
 from patchkept.leaves import fresh_name, pick_int, pick_text
 from patchkept.models import Models
@@ -170,15 +171,44 @@ class Finder:
                 tight.append((argument, number))
             else:
                 placed[token] = self.nodes.joined("and", [bases[token], number])
-        if not all([self.ways_to_place([wish], bases, placed) for wish in tight]):
+        plan = self.plan_for(tight, bases, placed)
+        if plan is None:
             return None
-        waiting = [(tight, placed)]
+        # The planned ones come first: what the others take is then no hindrance to them.
+        others = [wish for wish in tight if wish not in plan]
+        waiting = [(list(plan) + others, placed)]
         while waiting:
             left, placed = waiting.pop()
             if not left:
                 return placed
-            waiting.extend([(left[1:], way) for way in self.ways_to_place(left, bases, placed)[::-1]])
+            ways = self.ways_to_place(left, bases, placed, plan)
+            waiting.extend([(left[1:], way) for way in ways[::-1]])
         return None
+
+    def plan_for(self, wishes, bases, placed):
+        """Return tokens for wishes of which no two can come true at one token, or None if that is not possible.
+
+        Without them it would take all ways of placing some to see that there are too few tokens for all.
+        """
+        options = {}
+        for wish in wishes:
+            tokens = self.tokens_for(wish, bases, placed)
+            if not tokens:
+                return None
+            joint = [self.nodes.joined("and", [wish[1], other[1]]) for other in options]
+            if all([self.example(number) is None for number in joint]):
+                options[wish] = tokens
+        return own_tokens(options)
+
+    def tokens_for(self, wish, bases, placed):
+        """Return the list of the tokens at which the wish can come true."""
+        argument, number = wish
+        tokens = []
+        for token, base in bases.items():
+            told = self.nodes.joined("and", [placed.get(token, base), number])
+            if reaches(argument, token) and self.example(told) is not None:
+                tokens.append(token)
+        return tokens
 
     def tokens_alike(self, wishes, bases):
         """Return lists of tokens that are alike for every wish, and enough for all of them, by what is there anyway.
@@ -199,13 +229,14 @@ class Finder:
                 return free[0]
         return None
 
-    def ways_to_place(self, wishes, bases, placed):
+    def ways_to_place(self, wishes, bases, placed, plan):
         """Return the list of what `placed` can become by the first of the wishes; tokens that are alike count once."""
         argument, number = wishes[0]
+        planned = [plan[wishes[0]]] if wishes[0] in plan else []
         seen = set()
         ways = []
-        for token, base in bases.items():
-            now = placed.get(token, base)
+        for token in planned + list(bases):
+            now = placed.get(token, bases[token])
             key = (now, tuple([reaches(wish[0], token) for wish in wishes]))
             if not reaches(argument, token) or key in seen:
                 continue

@@ -276,6 +276,31 @@ class Build(unittest.TestCase):
                               some_field(("a", "c"), exactly(2)), within], True)
         self.check("object", [some_field(("a", "b"), exactly(0)), some_field(("a", "b"), exactly(1)), within], False)
 
+    def test_more_wishes_than_places_are_seen_to_be_too_many(self):
+        started = time.process_time()
+        for many in (60, 61):
+            wishes = [some_item(number % 5, exactly(number)) for number in range(many)]
+            self.check("list", wishes + [no(("items_from", 61))], many == 60)
+        for first, is_possible in ((0, True), (1, False)):
+            wishes = [some_item(number + first, exactly(number)) for number in range(40)]
+            self.check("list", wishes + [no(("items_from", 41))], is_possible)
+        names = tuple(CHARACTERS[:12])
+        for many in (12, 13):
+            wishes = [some_field((names[number % 12],), exactly(number)) for number in range(many)]
+            self.check("object", wishes + [("each_field", names, FALSE)], many == 12)
+            wishes = [some_field(names[:number % 12], exactly(number)) for number in range(many)]
+            self.check("object", wishes + [("each_field", names, FALSE)], many == 12)
+        self.assertLess(time.process_time() - started, 30)
+
+    def test_wishes_that_can_share_a_place_and_ones_that_cannot(self):
+        apart = [some_item(number % 3, exactly(number)) for number in range(8)]
+        shared = [some_item(0, ("int_from", 5)), some_item(3, no(("int_from", 2))), some_item(7, TRUE)]
+        for most in (7, 8, 9):
+            self.check("list", apart + shared + [no(("items_from", most + 1))], most >= 8)
+        self.check("list", apart + shared + [no(("items_from", 9)), at((7,), TEXT)], False)
+        self.check("list", apart + shared + [no(("items_from", 10)), at((7,), TEXT)], True)
+        self.check("list", apart + [some_item(0, TEXT), no(("items_from", 9))], False)
+
     def test_alternatives_can_be_built_exactly_if_there_is_an_example(self):
         rng = random.Random(182)
         values = [made_document(rng, 2) for _ in range(150)]
