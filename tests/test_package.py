@@ -86,6 +86,16 @@ class Package(unittest.TestCase):
                     called = [part for part in ast.walk(node) if isinstance(part, ast.Call)]
                     self.assertEqual((len(node.targets), called), (1, []), path)
 
+    def test_tables_are_not_passed_on(self):
+        for path in FILES:
+            tables = [node.targets[0].id for node in tree_of(path).body
+                      if isinstance(node, ast.Assign) and isinstance(node.value, (ast.Dict, ast.List))]
+            for node in ast.walk(tree_of(path)):
+                passed = node.args if isinstance(node, ast.Call) else [getattr(node, "value", None)]
+                if isinstance(node, (ast.Call, ast.Return, ast.Assign)):
+                    names = {part.id for part in passed if isinstance(part, ast.Name)}
+                    self.assertEqual(names & set(tables), set(), path)
+
     def test_imports_name_the_defining_file_and_form_no_circle(self):
         reached = {}
         for path in FILES:

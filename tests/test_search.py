@@ -1,5 +1,6 @@
 """Examples for formulas (point 18)."""
 
+import itertools
 import random
 import time
 import unittest
@@ -203,6 +204,10 @@ class Build(unittest.TestCase):
                 value = self.check("list", [("items_from", low), no(("items_from", high))], low < high)
                 if value is not None:
                     self.assertTrue(low <= len(value[1]) < high)
+        for least, most in ((4, 5), (5, 4), (4, 6), (6, 4)):
+            bounds = [no(("items_from", least)), no(("items_from", most))]
+            for many in (3, 4):
+                self.check("list", bounds + [some_item(0, exactly(number)) for number in range(many)], many == 3)
         self.check("list", [no(("items_from", 1)), at((0,), TRUE)], False)
         self.check("list", [no(("items_from", 2)), at((0,), TRUE)], True)
         self.check("list", [no(("items_from", 60)), at((60,), TRUE)], False)
@@ -451,6 +456,19 @@ class Examples(unittest.TestCase):
         self.check(both(*apart, *flags), True)
         self.check(both(*apart, *flags, at(("a",), ("bool_is", True)), at(("d",), ("bool_is", True))), False)
         self.check(both(*[either(missing(name), at((name,), exactly(1))) for name in names], *[no(missing(name)) for name in names]), True)
+
+    def test_choices_are_tried_as_far_as_a_table_of_all_flags_tells(self):
+        rng = random.Random(186)
+        found = [0, 0]
+        for turn in range(240):
+            tokens = (range(5) if turn % 2 else "abcde")
+            clauses = [[(token, rng.random() < 0.5) for token in rng.sample(tokens, 3)] for _ in range(rng.randrange(15, 30))]
+            table = [dict(zip(tokens, flags)) for flags in itertools.product((True, False), repeat=5)]
+            is_possible = any(all(any(row[token] == flag for token, flag in clause) for clause in clauses) for row in table)
+            parts = [either(*[at((token,), ("bool_is", flag)) for token, flag in clause]) for clause in clauses]
+            self.check(both(*parts), is_possible)
+            found[is_possible] += 1
+        self.assertGreater(min(found), 30)
 
     def test_the_search_ends_soon(self):
         rng = random.Random(184)
